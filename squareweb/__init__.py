@@ -1,0 +1,1 @@
+"""Squareweb: rectangles cut into squares, and the webs behind them."""

@@ -1,0 +1,86 @@
+"""Cuts and other things that several tests use."""
+
+GREATEST = 10 ** 9
+
+
+def row(many, side=1):
+    return [(side * at, 0, side) for at in range(many)]
+
+
+def column(many, side=1):
+    return [(0, side * at, side) for at in range(many)]
+
+
+ONE = [(0, 0, 1)]
+TWO_BESIDE = [(0, 0, 5), (5, 0, 5)]
+TWO_OVER = [(0, 0, 5), (0, 5, 5)]
+THREE = [(0, 0, 2), (2, 0, 1), (2, 1, 1)]
+FOUR_AT_A_SPOT = [(0, 0, 1), (1, 0, 1), (0, 1, 1), (1, 1, 1)]
+UNEVEN_AT_A_SPOT = [(0, 0, 2), (2, 0, 2), (0, 2, 1), (1, 2, 1), (2, 2, 2), (0, 3, 1), (1, 3, 1)]
+TWO_LINES_AT_ONE_HEIGHT = [(0, 0, 1), (1, 0, 2), (3, 0, 1), (0, 1, 1), (3, 1, 1)]
+# 33 by 32, all squares unlike.
+UNLIKE = [(0, 0, 18), (18, 0, 15), (18, 15, 7), (25, 15, 8), (0, 18, 14), (14, 18, 4), (14, 22, 10), (24, 22, 1),
+          (24, 23, 9)]
+
+CUTS = [ONE, TWO_BESIDE, TWO_OVER, THREE, FOUR_AT_A_SPOT, UNEVEN_AT_A_SPOT, TWO_LINES_AT_ONE_HEIGHT, UNLIKE,
+        row(24), column(24), [(0, 0, GREATEST)], row(2, GREATEST), column(2, GREATEST)]
+
+
+def deep(core, make, times=8):
+    thing = core
+    for _ in range(times):
+        thing = make(thing)
+    return thing
+
+
+def tuple_of(thing):
+    return (thing,)
+
+
+def list_of(thing):
+    return [thing]
+
+
+# Neither a cut nor a touching.
+OTHER_THINGS = [
+    None, True, False, 0, 1, -1, 10 ** 40 - 1, -(10 ** 40 - 1), "", "cut", "[(0, 0, 1)]", "~ " * 1000,
+    [], (), [[]], [()], ([],), ((),), [None], (None,), [0], (0,), [True], (False,), ["ab"], ("ab",), [""], ("",),
+    ["abc"], ("ab", "cd"), [0, 0, 1], (0, 0, 1), [None, None], (None, None), ((), ()), [[], []], [(0, 0, 1), None],
+    ((None, None), (None, None)), ((0, 1), (1, 0)), ("", ""), (("", ""), ("", "")), (([], [0]), ([0], [])),
+    [((), (0,)), ((0,), ())],
+    deep(None, tuple_of), deep(None, list_of), deep((0, 0, 1), list_of), deep((0, 0, 1), tuple_of),
+    deep(0, tuple_of), deep([(0, 0, 1)], list_of, 5), deep([(0, 0, 1)], tuple_of, 5),
+    [None] * 24, [()] * 25, ((),) * 25, [0] * 1000, (0,) * 1000,
+]
+
+
+def all_fillings(width, height):
+    """All cuts of just these sides, found by filling the first free cell in each way."""
+    found = []
+
+    def fill(squares, taken):
+        free = [(y, x) for y in range(height) for x in range(width) if (x, y) not in taken]
+        if not free:
+            found.append(sorted(squares, key=lambda square: (square[1], square[0])))
+            return
+        y, x = free[0]
+        side = 1
+        while x + side <= width and y + side <= height:
+            cells = cells_of((x, y, side))
+            if cells & taken:
+                break
+            fill(squares + [(x, y, side)], taken | cells)
+            side += 1
+
+    fill([], frozenset())
+    return found
+
+
+def cells_of(square):
+    left, top, side = square
+    return frozenset((x, y) for x in range(left, left + side) for y in range(top, top + side))
+
+
+def small_fillings():
+    """All cuts of small rectangles."""
+    return [cut for width in range(1, 5) for height in range(1, 5) for cut in all_fillings(width, height)]
