@@ -43,8 +43,12 @@ def is_square(thing):
 
 def is_rising(squares):
     """Whether the squares rise by (top, left)."""
-    places = [(top, left) for left, top, side in squares]
-    return places == sorted(places)
+    return squares == in_order(squares)
+
+
+def in_order(squares):
+    """The squares as a new list, rising by (top, left)."""
+    return sorted(squares, key=lambda square: (square[1], square[0]))
 
 
 def is_filled(squares):

@@ -1,7 +1,7 @@
 """The flat lines of a cut, and touchings: how squares touch, line by line."""
 
 from squareweb.cuts import MOST_SQUARES
-from squareweb.whole import is_whole
+from squareweb.whole import is_numbers
 
 FEWEST_LINES = 2
 MOST_LINES = 25
@@ -61,11 +61,6 @@ def is_line(thing):
     return isinstance(thing, tuple) and len(thing) == 2 and is_numbers(thing[0]) and is_numbers(thing[1])
 
 
-def is_numbers(thing):
-    """Whether the thing, of any kind, is a tuple of whole numbers."""
-    return isinstance(thing, tuple) and all(is_whole(number) for number in thing)
-
-
 def is_empty_at_rim_only(touching):
     """Whether just the first line has nothing above and just the last one nothing below."""
     bare_above = [at for at, (above, below) in enumerate(touching) if not above]
@@ -83,5 +78,16 @@ def has_each_number_once(touching):
 
 def is_falling(touching):
     """Whether each square stands on a later line than that below which it hangs."""
-    hung_at = {number: at for at, (above, below) in enumerate(touching) for number in below}
-    return all(hung_at[number] < at for at, (above, below) in enumerate(touching) for number in above)
+    hung_from = lines_hung_from(touching)
+    stood_on = lines_stood_on(touching)
+    return all(hung_from[number] < stood_on[number] for number in hung_from)
+
+
+def lines_hung_from(touching):
+    """For each square's number the place of the line below which it hangs."""
+    return {number: at for at, (above, below) in enumerate(touching) for number in below}
+
+
+def lines_stood_on(touching):
+    """For each square's number the place of the line on which it stands."""
+    return {number: at for at, (above, below) in enumerate(touching) for number in above}

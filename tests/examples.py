@@ -41,7 +41,7 @@ def list_of(thing):
     return [thing]
 
 
-# Neither a cut nor a touching.
+# Neither a cut nor a touching, a web or streams.
 OTHER_THINGS = [
     None, True, False, 0, 1, -1, 10 ** 40 - 1, -(10 ** 40 - 1), "", "cut", "[(0, 0, 1)]", "~ " * 1000,
     [], (), [[]], [()], ([],), ((),), [None], (None,), [0], (0,), [True], (False,), ["ab"], ("ab",), [""], ("",),
@@ -54,14 +54,16 @@ OTHER_THINGS = [
 ]
 
 
-def all_fillings(width, height):
-    """All cuts of just these sides, found by filling the first free cell in each way."""
+def all_fillings(width, height, most=24):
+    """All cuts of just these sides, of at most so many squares, found by filling the first free cell in each way."""
     found = []
 
     def fill(squares, taken):
         free = [(y, x) for y in range(height) for x in range(width) if (x, y) not in taken]
         if not free:
             found.append(sorted(squares, key=lambda square: (square[1], square[0])))
+            return
+        if len(squares) == most:
             return
         y, x = free[0]
         side = 1
@@ -84,3 +86,29 @@ def cells_of(square):
 def small_fillings():
     """All cuts of small rectangles."""
     return [cut for width in range(1, 5) for height in range(1, 5) for cut in all_fillings(width, height)]
+
+
+def painted(cut):
+    """The rectangle as rows of cells, each painted with the number of its square."""
+    width = max(left + side for left, top, side in cut)
+    height = max(top + side for left, top, side in cut)
+    rows = [[None] * width for _ in range(height)]
+    for number, square in enumerate(cut):
+        for x, y in cells_of(square):
+            rows[y][x] = number
+    return rows
+
+
+def squares_painted(rows):
+    """The cut that is painted so, read off the cells."""
+    cells = {}
+    for y, cells_across in enumerate(rows):
+        for x, number in enumerate(cells_across):
+            cells.setdefault(number, []).append((x, y))
+    squares = [(min(x for x, y in own), min(y for x, y in own), max(x for x, y in own) - min(x for x, y in own) + 1)
+               for own in cells.values()]
+    return sorted(squares, key=lambda square: (square[1], square[0]))
+
+
+def grown(cut, times):
+    return [(left * times, top * times, side * times) for left, top, side in cut]

@@ -10,6 +10,10 @@ BUILTINS = set("""len range enumerate zip min max sum abs sorted reversed int st
     frozenset isinstance ord repr any all divmod super Exception ValueError TypeError KeyError IndexError LookupError
     ZeroDivisionError ArithmeticError OverflowError RuntimeError NotImplementedError AttributeError StopIteration
     NotImplemented""".split())
+METHODS = set("""append clear copy count endswith extend find get index insert isalnum isalpha isdigit islower isspace
+    isupper items join keys ljust lower lstrip partition pop remove replace reverse rfind rjust rpartition rsplit rstrip
+    setdefault split splitlines startswith strip update upper values zfill bit_length add discard __init__""".split())
+TAKING_GENERATORS = {"list", "tuple", "dict", "sorted", "sum", "min", "max", "any", "all", "join"}
 BARRED_WORDS = re.compile(r"\b(type|typing|typing_extensions|enum|Enum|IntEnum|StrEnum|Flag|IntFlag|Generic|Protocol"
                           r"|ABC|ABCMeta|namedtuple|NamedTuple|TypedDict|TYPE_CHECKING|abstractmethod)\b"
                           r"|dataclass|overload|contextmanager")
@@ -71,6 +75,26 @@ class LanguageTest(unittest.TestCase):
                 if isinstance(node, ast.Name):
                     self.assertIn(node.id, bound | BUILTINS, (name, node.lineno))
                     self.assertFalse(node.id.startswith("_"), (name, node.lineno))
+
+    def test_methods(self):
+        nodes = [node for tree in self.trees.values() for node in ast.walk(tree)]
+        own = {node.name for node in nodes if isinstance(node, ast.FunctionDef)}
+        for name, tree in self.trees.items():
+            for node in ast.walk(tree):
+                if isinstance(node, ast.Call) and isinstance(node.func, ast.Attribute):
+                    self.assertIn(node.func.attr, METHODS | own, (name, node.lineno))
+
+    def test_generator_expressions_stand_directly_in_calls(self):
+        for name, tree in self.trees.items():
+            allowed = []
+            for node in ast.walk(tree):
+                if isinstance(node, ast.Call):
+                    called = getattr(node.func, "id", getattr(node.func, "attr", None))
+                    if called in TAKING_GENERATORS:
+                        allowed += node.args
+            for node in ast.walk(tree):
+                if isinstance(node, ast.GeneratorExp):
+                    self.assertIn(node, allowed, (name, node.lineno))
 
 
 if __name__ == "__main__":
