@@ -1,5 +1,7 @@
 """Cuts and other things that several tests use."""
 
+import math
+
 GREATEST = 10 ** 9
 
 
@@ -54,6 +56,10 @@ OTHER_THINGS = [
 ]
 
 
+def in_order(squares):
+    return sorted(squares, key=lambda square: (square[1], square[0]))
+
+
 def all_fillings(width, height, most=24):
     """All cuts of just these sides, of at most so many squares, found by filling the first free cell in each way."""
     found = []
@@ -61,7 +67,7 @@ def all_fillings(width, height, most=24):
     def fill(squares, taken):
         free = [(y, x) for y in range(height) for x in range(width) if (x, y) not in taken]
         if not free:
-            found.append(sorted(squares, key=lambda square: (square[1], square[0])))
+            found.append(in_order(squares))
             return
         if len(squares) == most:
             return
@@ -107,8 +113,41 @@ def squares_painted(rows):
             cells.setdefault(number, []).append((x, y))
     squares = [(min(x for x, y in own), min(y for x, y in own), max(x for x, y in own) - min(x for x, y in own) + 1)
                for own in cells.values()]
-    return sorted(squares, key=lambda square: (square[1], square[0]))
+    return in_order(squares)
 
 
 def grown(cut, times):
     return [(left * times, top * times, side * times) for left, top, side in cut]
+
+
+def lowest_by_hand(cut):
+    divisor = math.gcd(*[number for square in cut for number in square])
+    return [tuple(number // divisor for number in square) for square in cut]
+
+
+def renumbered(touching, numbers):
+    """The touching with each square's number exchanged for that at its place in numbers."""
+    return tuple(tuple(tuple(numbers[number] for number in part) for part in line) for line in touching)
+
+
+def canonical(touching):
+    """One and the same for all touchings that differ only in the squares' numbers and the lines' order."""
+    stood_on = {number: at for at, (above, below) in enumerate(touching) for number in above}
+    order, numbers = [0], {}
+    for at in order:
+        for number in touching[at][1]:
+            numbers[number] = len(numbers)
+            if stood_on[number] not in order:
+                order.append(stood_on[number])
+    return renumbered([touching[at] for at in order], numbers)
+
+
+# The greatest side that a lowest cut of so many squares, 1 to 6, has.
+GREATEST_SIDES = [1, 2, 3, 5, 8, 13]
+
+
+def few_square_cuts(most):
+    """All lowest cuts of at most so many squares, found by filling."""
+    greatest = GREATEST_SIDES[most - 1]
+    return [cut for width in range(1, greatest + 1) for height in range(1, greatest + 1)
+            for cut in all_fillings(width, height, most) if lowest_by_hand(cut) == cut]

@@ -8,34 +8,10 @@ import unittest
 from squareweb.built import built
 from squareweb.cuts import is_cut
 from squareweb.lines import is_touching, touching_of
-from tests.examples import (CUTS, FOUR_AT_A_SPOT, GREATEST, THREE, TWO_LINES_AT_ONE_HEIGHT, UNLIKE, all_fillings,
-                            column, row, small_fillings)
+from tests.examples import (CUTS, FOUR_AT_A_SPOT, GREATEST, THREE, TWO_LINES_AT_ONE_HEIGHT, UNLIKE, canonical, column,
+                            few_square_cuts, lowest_by_hand, renumbered, row, small_fillings)
 
 MOST = 5
-# No lowest cut of five squares has a greater side.
-GREATEST_SIDE = 8
-
-
-def lowest_by_hand(cut):
-    divisor = math.gcd(*[number for square in cut for number in square])
-    return [tuple(number // divisor for number in square) for square in cut]
-
-
-def renumbered(touching, numbers):
-    """The touching with each square's number exchanged for that at its place in numbers."""
-    return tuple(tuple(tuple(numbers[number] for number in part) for part in line) for line in touching)
-
-
-def canonical(touching):
-    """One and the same for all touchings that differ only in the squares' numbers and the lines' order."""
-    stood_on = {number: at for at, (above, below) in enumerate(touching) for number in above}
-    order, numbers = [0], {}
-    for at in order:
-        for number in touching[at][1]:
-            numbers[number] = len(numbers)
-            if stood_on[number] not in order:
-                order.append(stood_on[number])
-    return renumbered([touching[at] for at in order], numbers)
 
 
 def split_in(numbers, many):
@@ -58,12 +34,7 @@ def all_touchings(squares):
 
 def cuts_by_touching(most):
     """All lowest cuts of at most so many squares, by what all touchings like theirs have in common."""
-    found = {}
-    for width in range(1, GREATEST_SIDE + 1):
-        for height in range(1, GREATEST_SIDE + 1):
-            for cut in all_fillings(width, height, most):
-                found[canonical(touching_of(cut))] = lowest_by_hand(cut)
-    return found
+    return {canonical(touching_of(cut)): cut for cut in few_square_cuts(most)}
 
 
 def sizes_by_fractions(touching):

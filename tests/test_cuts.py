@@ -7,15 +7,11 @@ import unittest
 from squareweb.cuts import is_cut, like_ones, sides
 from tests.examples import (CUTS, FOUR_AT_A_SPOT, GREATEST, ONE, OTHER_THINGS, THREE, TWO_BESIDE,
                             TWO_LINES_AT_ONE_HEIGHT, TWO_OVER, UNEVEN_AT_A_SPOT, UNLIKE, cells_of, column, deep,
-                            list_of, row, small_fillings, tuple_of)
+                            in_order, list_of, row, small_fillings, tuple_of)
 
 
 def with_one_replaced(cut, number, square):
     return cut[:number] + [square] + cut[number + 1:]
-
-
-def in_order(squares):
-    return sorted(squares, key=lambda square: (square[1], square[0]))
 
 
 def is_cut_by_cells(squares):

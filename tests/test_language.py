@@ -32,6 +32,8 @@ def names_bound(tree):
             found.update(alias.name for alias in node.names)
         elif isinstance(node, ast.Name) and isinstance(node.ctx, ast.Store):
             found.add(node.id)
+        elif isinstance(node, (ast.MatchAs, ast.MatchStar)) and node.name is not None:
+            found.add(node.name)
     return found
 
 
