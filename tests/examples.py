@@ -142,7 +142,8 @@ def canonical(touching):
     return renumbered([touching[at] for at in order], numbers)
 
 
-# The greatest side that a lowest cut of so many squares, 1 to 6, has.
+# The greatest side that a lowest cut of so many squares, 1 to 6, has. A side counts trees at most, and six ties have at
+# most 16 (five 8, four 5): filling sides from 14 to 16 by six squares, too slow for each run, found none.
 GREATEST_SIDES = [1, 2, 3, 5, 8, 13]
 
 
